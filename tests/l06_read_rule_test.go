@@ -651,19 +651,27 @@ func TestStaleReadsAreNewMemory(t *testing.T) {
 	}
 }
 
+// storeWithSpare returns the store with chains, and a list of them, that are the beginnings of longer ones, and whether all of these are still as they were.
+func storeWithSpare(s impl.Store) (part impl.Store, stays func() bool) {
+	whole := cloneStore(s)
+	whole.Chains = append(whole.Chains, longChain(3))
+	for key, l := range whole.Chains {
+		whole.Chains[key] = append(l, version(1, 2, 3, 4, 5), version(5, 4, 3, 2, 1))
+	}
+	before := cloneStore(whole)
+	chains := slices.Clone(whole.Chains)
+	for key, l := range chains {
+		chains[key] = l[:len(l)-2]
+	}
+	part = impl.Store{Chains: chains[:len(s.Chains)]}
+	return part, func() bool {
+		return impl.EqualStores(whole, before) && impl.EqualStores(part, s) && impl.EqualChains(chains[len(s.Chains)], longChain(3))
+	}
+}
+
 func TestReadRuleArgumentsStay(t *testing.T) {
 	for _, whole := range append(invalidStores(), readStore(), mixedStore()) {
-		// The chains, and the list of them, are the beginnings of longer ones: what follows must stay, too.
-		array := cloneStore(whole)
-		array.Chains = append(array.Chains, longChain(3))
-		for key, l := range array.Chains {
-			array.Chains[key] = append(l, version(1, 2, 3, 4, 5), version(5, 4, 3, 2, 1))
-		}
-		before := cloneStore(array)
-		s := impl.Store{Chains: slices.Clone(array.Chains)[:len(whole.Chains)]}
-		for key, l := range s.Chains {
-			s.Chains[key] = l[:len(l)-2]
-		}
+		s, stays := storeWithSpare(whole)
 		for _, x := range append(activeReaders(), fullTransaction(), readerOf(marksOf(readStore())...)) {
 			part, longer := withSpare(x)
 			longerBefore := cloneTransaction(longer)
@@ -677,7 +685,7 @@ func TestReadRuleArgumentsStay(t *testing.T) {
 				t.Fatalf("the transaction %v is modified: %v", x, longer)
 			}
 		}
-		if !impl.EqualStores(array, before) || !impl.EqualStores(s, whole) {
+		if !stays() {
 			t.Fatalf("the store is modified: %v", s)
 		}
 	}
