@@ -336,12 +336,17 @@ func shortLockLists() [][]impl.Lock {
 			locks = append(locks, impl.Lock{Key: key, Owner: owner})
 		}
 	}
-	lists, last := [][]impl.Lock{nil}, [][]impl.Lock{nil}
+	return shortLists(locks)
+}
+
+// shortLists returns all lists of up to three of the elements.
+func shortLists[T any](elements []T) [][]T {
+	lists, last := [][]T{nil}, [][]T{nil}
 	for range 3 {
-		var longer [][]impl.Lock
+		var longer [][]T
 		for _, l := range last {
-			for _, lock := range locks {
-				longer = append(longer, append(slices.Clone(l), lock))
+			for _, element := range elements {
+				longer = append(longer, append(slices.Clone(l), element))
 			}
 		}
 		lists, last = append(lists, longer...), longer
