@@ -21,9 +21,17 @@ func hasRoomForVersions(s impl.Store, x impl.Transaction) bool {
 
 // expectedCommit returns by the definition what a commit makes of a valid store and a valid transaction.
 func expectedCommit(s impl.Store, x impl.Transaction, stamp int) (impl.Store, impl.Transaction, bool) {
+	if !expectedOutcome(s, x, stamp).may {
+		return cloneStore(s), cloneTransaction(x), false
+	}
+	return expectedCommitAnyway(s, x, stamp)
+}
+
+// expectedCommitAnyway is the definition without the condition that the window has room.
+func expectedCommitAnyway(s impl.Store, x impl.Transaction, stamp int) (impl.Store, impl.Transaction, bool) {
 	store, y := cloneStore(s), cloneTransaction(x)
 	o := expectedOutcome(s, x, stamp)
-	if !o.may || !hasRoomForVersions(s, x) {
+	if !o.window || !hasRoomForVersions(s, x) {
 		return store, y, false
 	}
 	for key, l := range store.Chains {
